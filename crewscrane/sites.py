@@ -4,7 +4,8 @@ Each call is a function of the site and the call's whole numbers; it gives a lis
 """
 
 from crewscrane.order import comes_behind, earliest_day, latest_day, whole_span
-from crewscrane.plans import some_plan_holds
+from crewscrane.plans import at_work, most_persons, plan_end
+from crewscrane.search import best_plan, least_crew
 from crewscrane.works import Site, Work
 
 NO_SUCH_WORK = -2
@@ -28,9 +29,11 @@ def is_missing(site, number):
     return number >= len(site.works)
 
 
-# Lets a site become its changed twin, but refuses where no plan would hold.
+# Lets a site become its changed twin, but refuses where no plan would hold. All changes but begin come through here,
+# so that the best plan is always that of the site as it is.
 def changed(site, trial, answer):
-    if not some_plan_holds(trial):
+    trial.plan = best_plan(trial)
+    if trial.plan is None:
         return [NO_PLAN]
     site.become(trial)
     return [answer]
@@ -72,8 +75,9 @@ def unafter(site, a, b):
         return [NO_SUCH_WORK]
     if a not in site.works[b].waits:
         return [NOT_TOLD]
-    site.works[b].waits.pop(a)
-    return [0]
+    trial = site.twin()
+    trial.works[b].waits.pop(a)
+    return changed(site, trial, 0)
 
 
 def crew(site, kind, n):
@@ -110,8 +114,9 @@ def unfix(site, a):
         return [NO_SUCH_WORK]
     if site.works[a].fixed is None:
         return [NOT_TOLD]
-    site.works[a].fixed = None
-    return [0]
+    trial = site.twin()
+    trial.works[a].fixed = None
+    return changed(site, trial, 0)
 
 
 def early(site):
@@ -128,10 +133,68 @@ def late(site, e):
     return [count] + [latest_day(site.works, number, e) for number in range(count)]
 
 
+def slack(site):
+    end = whole_span(site.works)
+    count = len(site.works)
+    return [count] + [latest_day(site.works, k, end) - earliest_day(site.works, k) for k in range(count)]
+
+
+def span(site):
+    return [whole_span(site.works)]
+
+
+def shortest(site):
+    return [plan_end(site.works, site.plan)]
+
+
+def plan(site):
+    return [len(site.plan)] + site.plan
+
+
+def day(site, d):
+    busy = at_work(site.works, site.plan, d)
+    return [len(busy)] + busy
+
+
+def use(site, kind):
+    if kind > LAST_KIND:
+        return [OUT_OF_RANGE]
+    return [most_persons(site.works, site.plan, kind)]
+
+
+def enough(site, kind):
+    if kind > LAST_KIND:
+        return [OUT_OF_RANGE]
+    return [least_crew(site, kind)]
+
+
+def behind(site, a):
+    if is_missing(site, a):
+        return [NO_SUCH_WORK]
+    followers = [b for b in range(len(site.works)) if comes_behind(site.works, b, a)]
+    return [len(followers)] + followers
+
+
+def look(site, a):
+    if is_missing(site, a):
+        return [NO_SUCH_WORK]
+    seen = site.works[a]
+    fixed = 0 if seen.fixed is None else seen.fixed + 1
+    told = [seen.days, seen.kind, seen.persons, seen.crane, fixed, len(seen.waits)]
+    for which in seen.waits:
+        told.extend([which, seen.waits[which]])
+    return told
+
+
+def state(site):
+    return [len(site.works)] + site.crews
+
+
 BEGIN = 0
 # The functions of the calls, by the calls' numbers.
-CALLS = (begin, work, after, unafter, crew, longer, fix, unfix, early, late)
-# How many whole numbers stand behind each call's own: the form of all twenty calls of the interface.
+CALLS = (begin, work, after, unafter, crew, longer, fix, unfix, early, late,
+         slack, span, shortest, plan, day, use, enough, behind, look, state)
+# How many whole numbers stand behind each call's own.
 SIZES = (3, 4, 3, 2, 2, 2, 2, 1, 0, 1, 0, 0, 0, 0, 1, 1, 1, 1, 1, 0)
 
 

@@ -1,4 +1,4 @@
-"""What a site is: its crews, and its works."""
+"""What a site is: its crews, its works, and its best plan."""
 
 
 class Work:
@@ -24,11 +24,14 @@ class Site:
         self.begun = False
         self.crews = [0, 0, 0]
         self.works = []
+        # The best plan: the day on which each work begins.
+        self.plan = []
 
     def begin_with(self, crews):
         self.begun = True
         self.crews = crews
         self.works = []
+        self.plan = []
 
     # A change is tried on a twin first, so that a refused one leaves no trace.
     def twin(self):
@@ -36,9 +39,11 @@ class Site:
         other.begun = self.begun
         other.crews = list(self.crews)
         other.works = [work.twin() for work in self.works]
+        other.plan = list(self.plan)
         return other
 
     def become(self, other):
         self.begun = other.begun
         self.crews = other.crews
         self.works = other.works
+        self.plan = other.plan

@@ -1,17 +1,19 @@
 import unittest
 
 from crewscrane.sites import answers
-from helper import HUGE, after, ask, begin, crew, early, fix, last, late, line_of, longer, unafter, unfix, work
+from helper import (HUGE, after, ask, begin, behind, crew, day, early, enough, fix, last, late, line_of, longer, look,
+                    plan, shortest, slack, span, state, unafter, unfix, use, work)
 
 # Every call of the interface but begin, with ordinary numbers.
 ALL_BUT_BEGIN = [
     work(1), after(0, 1), unafter(0, 1), crew(0, 1), longer(0, 1), fix(0, 0), unfix(0), early(), late(9),
-    [10], [11], [12], [13], [14, 0], [15, 0], [16, 0], [17, 0], [18, 0], [19],
+    slack(), span(), shortest(), plan(), day(0), use(0), enough(0), behind(0), look(0), state(),
 ]
 
 WHOLE_LINE = line_of([
     early(), begin(3, 4, 5), work(2, 0, 3), work(3, 1, 4, 1), work(1, 2, 5, 1), after(0, 1, 2), after(1, 2), fix(2, 20),
     crew(0, 2), crew(1, 9), longer(0, 1), early(), late(30), unafter(1, 2), unfix(2), unfix(2), work(1, 0, 4), early(),
+    slack(), span(), shortest(), plan(), day(5), use(1), enough(1), behind(0), look(1), state(), use(3), look(3),
 ])
 
 
@@ -33,9 +35,12 @@ class Form(unittest.TestCase):
     def test_a_whole_line(self):
         rows = ask(early(), begin(3, 4, 5), work(2, 0, 3), work(3, 1, 4, 1), work(1, 2, 5, 1), after(0, 1, 2),
                    after(1, 2), fix(2, 20), crew(0, 2), crew(1, 9), longer(0, 1), early(), late(30), unafter(1, 2),
-                   unfix(2), unfix(2), work(1, 0, 4), early())
+                   unfix(2), unfix(2), work(1, 0, 4), early(), slack(), span(), shortest(), plan(), day(5), use(1),
+                   enough(1), behind(0), look(1), state(), use(3), look(3))
         self.assertEqual(rows, [[-11], [0], [0], [1], [2], [0], [0], [0], [-33], [4], [3], [3, 0, 5, 8],
-                                [3, 21, 26, 29], [0], [0], [-6], [-33], [3, 0, 5, 0]])
+                                [3, 21, 26, 29], [0], [0], [-6], [-33], [3, 0, 5, 0],
+                                [3, 0, 0, 7], [8], [8], [3, 0, 5, 0], [1, 1], [4], [4], [1, 1],
+                                [3, 1, 4, 1, 0, 1, 0, 2], [3, 3, 9, 5], [-22], [-2]])
 
     def test_sixty_calls(self):
         rows = ask(begin(1, 1, 1), *([work(1)] * 6), *([early()] * 53))
@@ -70,7 +75,8 @@ class BeforeBegin(unittest.TestCase):
 
     def test_ahead_of_every_other_refusal(self):
         wrong = [work(0), work(1, 3), after(0, 0, 6), unafter(0, 0), crew(3, 10), longer(0, 0), fix(0, 100), unfix(0),
-                 late(100), late(HUGE), work(HUGE, HUGE, HUGE, HUGE), after(HUGE, HUGE, HUGE), crew(HUGE, HUGE)]
+                 late(100), late(HUGE), work(HUGE, HUGE, HUGE, HUGE), after(HUGE, HUGE, HUGE), crew(HUGE, HUGE),
+                 day(HUGE), use(3), use(HUGE), enough(3), enough(HUGE), behind(HUGE), look(HUGE)]
         for call in wrong:
             self.assertEqual(ask(call), [[-11]], call)
 
@@ -109,8 +115,8 @@ class Begin(unittest.TestCase):
 class EveryCallReadsItsOwnNumbers(unittest.TestCase):
     def test_a_refused_call_is_read_whole(self):
         wrong = [begin(HUGE, 0, 8), work(9, 8, 8, 8), after(8, 8, 8), unafter(8, 8), crew(8, 8), longer(8, 8),
-                 fix(8, 8), unfix(8), late(HUGE)]
-        refusals = [-22, -22, -2, -2, -22, -2, -2, -2, -22]
+                 fix(8, 8), unfix(8), late(HUGE), use(8), enough(8), behind(8), look(8)]
+        refusals = [-22, -22, -2, -2, -22, -2, -2, -2, -22, -22, -22, -2, -2]
         for call, refusal in zip(wrong, refusals):
             self.assertEqual(ask(begin(1, 1, 1), call, early()), [[0], [refusal], [0]], call)
 
@@ -121,11 +127,17 @@ class EveryCallReadsItsOwnNumbers(unittest.TestCase):
             (work(1, 0, 0, HUGE), -22), (after(HUGE, 0), -2), (after(0, HUGE), -2), (after(0, 1, HUGE), -22),
             (unafter(HUGE, 0), -2), (unafter(0, HUGE), -2), (crew(HUGE, 0), -22), (crew(0, HUGE), -22),
             (longer(HUGE, 1), -2), (longer(0, HUGE), -22), (fix(HUGE, 0), -2), (fix(0, HUGE), -22), (unfix(HUGE), -2),
-            (late(HUGE), -22),
+            (late(HUGE), -22), (use(HUGE), -22), (enough(HUGE), -22), (behind(HUGE), -2), (look(HUGE), -2),
         ]
         for call, refusal in asked:
             self.assertEqual(last(*site, call), [refusal], call)
             self.assertEqual(last(*site, call, early()), [2, 0, 0], call)
+
+    def test_each_call_that_asks_is_read_whole(self):
+        site = [begin(9, 8, 7), work(1), work(1)]
+        for call in (early(), late(9), slack(), span(), shortest(), plan(), day(8), use(2), enough(2), behind(1),
+                     look(1), state()):
+            self.assertEqual(last(*site, call, state()), [2, 9, 8, 7], call)
 
 
 if __name__ == "__main__":
